@@ -1,0 +1,1 @@
+"""Relative and absolute chronology of an excavation."""
