@@ -85,3 +85,9 @@ def reach(reached, unit, chain):
 def chain_between(steps, start, end):
     """The preferred chain from one unit to another, or None if there is no chain."""
     return chains_from(steps, start).get(end)
+
+
+def strict_chain_between(steps, start, end):
+    """The preferred strict chain from one unit to another, or None if there is no strict chain."""
+    chain = chain_between(steps, start, end)
+    return chain if chain is not None and chain.is_strict else None

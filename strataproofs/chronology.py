@@ -1,8 +1,9 @@
 """What the active facts tell of the order and of the years of units and finds."""
 
-from strataproofs.chains import chain_between, chains_from, steps_of
+from strataproofs.chains import chain_between, chains_from, steps_of, strict_chain_between
 from strataproofs.facts import earliest_limits, latest_limits
 from strataproofs.limits import FIRST_YEAR, LAST_YEAR
+from strataproofs.strata import stratum_of
 
 NEVER = 0
 ALWAYS = 1
@@ -12,12 +13,27 @@ SOMETIMES = 2
 def answer_is_earlier(facts, a, b):
     """In how many of the scenarios unit `a` is earlier than unit `b`."""
     steps = steps_of(facts)
-    forward = chain_between(steps, a, b)
-    if forward is not None and forward.is_strict:
+    if strict_chain_between(steps, a, b) is not None:
         return ALWAYS
     # Here units of one stratum, and a unit and itself, have a chain, too.
     if chain_between(steps, b, a) is not None:
         return NEVER
+    return SOMETIMES
+
+
+def answer_same_year(facts, a, b):
+    """In how many of the scenarios two units have the same year."""
+    steps = steps_of(facts)
+    if stratum_of(steps, a) == stratum_of(steps, b):
+        return ALWAYS
+    earliest = [earliest_year(facts, a), earliest_year(facts, b)]
+    latest = [latest_year(facts, a), latest_year(facts, b)]
+    if max(earliest) > min(latest):
+        return NEVER
+    # Two strata can be as far apart as their ranges reach: the earlier at its smallest year while the
+    # later is at its largest one.
+    if min(earliest) == max(latest):
+        return ALWAYS
     return SOMETIMES
 
 

@@ -4,7 +4,7 @@ Each `explain_..` gives back the explanation as a list of fact ids. The list is
 empty if the fact contradicts nothing: a contradiction has at least one id.
 """
 
-from strataproofs.chains import chain_between, chains_from, preference, steps_of
+from strataproofs.chains import chain_between, chains_from, preference, steps_of, strict_chain_between
 from strataproofs.facts import earliest_limits, latest_limits
 
 
@@ -17,8 +17,8 @@ def explain_above(facts, upper, lower):
 def explain_same(facts, a, b):
     """The explanation for the fact same(a, b)."""
     steps = steps_of(facts)
-    chains = [chain_between(steps, a, b), chain_between(steps, b, a)]
-    return preferred([chain.ids for chain in chains if chain is not None and chain.is_strict])
+    chains = [strict_chain_between(steps, a, b), strict_chain_between(steps, b, a)]
+    return preferred([chain.ids for chain in chains if chain is not None])
 
 
 def explain_find(facts, unit, made_from):

@@ -1,34 +1,46 @@
 """The calls of a session, handed in as one list, and their answers."""
 
+from strataproofs.operation_numbers import (
+    ADD_ABOVE,
+    ADD_DATE,
+    ADD_FIND,
+    ADD_SAME,
+    ADD_UNIT,
+    ARGUMENT_COUNTS,
+    BEST_QUESTION,
+    COUNT_SEQUENCES,
+    FIND_YEAR_RANGE,
+    FIRST_SEQUENCE,
+    HARRIS_MATRIX,
+    IS_EARLIER,
+    POSITION_RANGE,
+    RETRACT,
+    SAME_YEAR,
+    STRATUM,
+    YEAR_RANGE,
+)
 from strataproofs.operations import (
     add_above,
     add_date,
     add_find,
     add_same,
     add_unit,
+    best_question,
+    count_sequences,
+    explain,
     find_year_range,
+    first_sequence,
+    harris_matrix,
     is_earlier,
+    list_facts,
+    position_range,
     retract,
+    same_year,
+    stratum,
     year_range,
 )
 from strataproofs.record import Record
 from strataproofs.refusals import Refusal
-
-ADD_UNIT = 1
-ADD_ABOVE = 2
-ADD_SAME = 3
-ADD_FIND = 4
-ADD_DATE = 5
-RETRACT = 6
-IS_EARLIER = 7
-YEAR_RANGE = 8
-
-# How many arguments the operations have, in the order of their numbers from 1.
-ARGUMENT_COUNTS = (0, 2, 2, 3, 3, 1, 2, 1, 1)
-
-
-class UnknownOperation(Exception):
-    """A call has the number of no operation that is built."""
 
 
 def answers(calls):
@@ -37,7 +49,7 @@ def answers(calls):
     numbers = []
     place = 0
     while place < len(calls):
-        end = place + 1 + argument_count(calls[place])
+        end = place + 1 + ARGUMENT_COUNTS[calls[place] - 1]
         answer = answer_of(record, calls[place:end])
         numbers.append(len(answer))
         numbers.extend(answer)
@@ -45,17 +57,12 @@ def answers(calls):
     return numbers
 
 
-def argument_count(operation):
-    """How many arguments a call of the operation has."""
-    if operation < 1 or operation > len(ARGUMENT_COUNTS):
-        raise UnknownOperation(f"operation {operation} is not built")
-    return ARGUMENT_COUNTS[operation - 1]
-
-
 def answer_of(record, call):
     """What one call answers, be it refused or not."""
     try:
-        return change(record, call) if call[0] <= RETRACT else question(record, call)
+        if call[0] <= RETRACT:
+            return change(record, call)
+        return question(record, call) if len(call) > 1 else question_of_all(record, call[0])
     except Refusal as refusal:
         return refusal.answer
 
@@ -77,11 +84,31 @@ def change(record, call):
 
 
 def question(record, call):
-    """Gives back the answer of a call that changes nothing."""
+    """Gives back the answer of a question about units or about a fact."""
     operation = call[0]
     if operation == IS_EARLIER:
         return is_earlier(record, call[1], call[2])
     if operation == YEAR_RANGE:
         return year_range(record, call[1])
-    # Numbers beyond the last one were turned away when the call was taken from the list.
-    return find_year_range(record, call[1])
+    if operation == FIND_YEAR_RANGE:
+        return find_year_range(record, call[1])
+    if operation == STRATUM:
+        return stratum(record, call[1])
+    if operation == POSITION_RANGE:
+        return position_range(record, call[1])
+    if operation == SAME_YEAR:
+        return same_year(record, call[1], call[2])
+    return explain(record, call[1], call[2])
+
+
+def question_of_all(record, operation):
+    """Gives back the answer of a question about the whole session."""
+    if operation == HARRIS_MATRIX:
+        return harris_matrix(record)
+    if operation == FIRST_SEQUENCE:
+        return first_sequence(record)
+    if operation == COUNT_SEQUENCES:
+        return count_sequences(record)
+    if operation == BEST_QUESTION:
+        return best_question(record)
+    return list_facts(record)

@@ -1,5 +1,7 @@
 """The four kinds of facts, and the limits that they set to the years of units."""
 
+from strataproofs.operation_numbers import ADD_ABOVE, ADD_DATE, ADD_FIND, ADD_SAME
+
 
 class Above:
     """Unit `upper` lies above unit `lower`, so it was deposited later."""
@@ -33,6 +35,17 @@ class Date:
         self.unit = unit
         self.year_from = year_from
         self.year_to = year_to
+
+
+def call_of(fact):
+    """The number of the operation that adds a fact, and three arguments, of which a missing one is 0."""
+    if isinstance(fact, Above):
+        return [ADD_ABOVE, fact.upper, fact.lower, 0]
+    if isinstance(fact, Same):
+        return [ADD_SAME, fact.a, fact.b, 0]
+    if isinstance(fact, Find):
+        return [ADD_FIND, fact.unit, fact.made_from, fact.made_to]
+    return [ADD_DATE, fact.unit, fact.year_from, fact.year_to]
 
 
 def earliest_limits(facts):

@@ -43,6 +43,20 @@ class NotFind(Refusal):
         Refusal.__init__(self, [-4])
 
 
+class NotEarlier(Refusal):
+    """The first unit is not certainly earlier than the second."""
+
+    def __init__(self):
+        Refusal.__init__(self, [-4])
+
+
+class NoneUndetermined(Refusal):
+    """No pair of strata is undetermined."""
+
+    def __init__(self):
+        Refusal.__init__(self, [-4])
+
+
 class Full(Refusal):
     """No further unit, or no further fact, has room."""
 

@@ -7,10 +7,12 @@ facts name, the ends of all years, and years between them.
 import itertools
 import unittest
 
-from tests.helper import above, ask, date, find, find_year_range, is_earlier, retract, same, year_range
+from tests.helper import (
+    BEST_QUESTION, COUNT_SEQUENCES, FIRST_SEQUENCE, HARRIS_MATRIX, LIST_FACTS, Numbers, ask, behind, explain,
+    find_year_range, is_earlier, position_range, retract, same_year, some_fact, stratum, year_range,
+)
 
 YEARS = (-5000, 0, 5, 10, 15, 20, 25, 30, 2100)
-NAMED_YEARS = (-5000, 0, 10, 20, 30, 2100)
 ABOVE, SAME, FIND, DATE = 2, 3, 4, 5
 
 
@@ -88,38 +90,41 @@ def lists_against(facts, fact, most):
     return lists
 
 
-def preferred_against(facts, fact, units):
-    """The preferred explanation of a contradiction."""
+def preferred(lists_of, units):
+    """The preferred one of the lists that are told for the most ids that they may have."""
     for most in range(1, 2 * units + 2):
-        lists = lists_against(facts, fact, most)
+        lists = lists_of(most)
         if lists:
             return list(min(lists))
     return None
 
 
-class Numbers:
-    """Numbers that look like chance and are the same each time."""
-
-    def __init__(self, seed):
-        self.state = seed
-
-    def below(self, count):
-        self.state = (self.state * 6364136223846793005 + 1442695040888963407) % 2 ** 64
-        return (self.state >> 33) % count
-
-    def one_of(self, things):
-        return things[self.below(len(things))]
+def preferred_against(facts, fact, units):
+    """The preferred explanation of a contradiction."""
+    return preferred(lambda most: lists_against(facts, fact, most), units)
 
 
-def some_fact(numbers, units):
-    """A fact about some of the units."""
-    first = numbers.below(units)
-    second = (first + 1 + numbers.below(units - 1)) % units
-    years = sorted([numbers.one_of(NAMED_YEARS), numbers.one_of(NAMED_YEARS)])
-    if years[0] == -5000 and numbers.below(2):
-        years[0] = min(years[1], 10)
-    make = numbers.one_of((above, above, same, find, date, date))
-    return make(first, second) if make in (above, same) else make(first, *years)
+def preferred_strict_chain(facts, a, b, units):
+    """The preferred strict chain from one unit to another."""
+    return preferred(lambda most: [ids for end, ids, strict in chains(facts, a, most) if end == b and strict], units)
+
+
+def earlier_pairs(possible, units):
+    """The pairs of units of which the first is earlier in all scenarios."""
+    pairs = itertools.permutations(units, 2)
+    return {(a, b) for a, b in pairs if all(moments[a] < moments[b] for moments, years in possible)}
+
+
+def undetermined_pairs(possible, strata):
+    """The pairs of strata, the smaller number first, of which neither is earlier in all scenarios."""
+    earlier = earlier_pairs(possible, strata)
+    return [(a, b) for a, b in itertools.combinations(strata, 2) if not earlier & {(a, b), (b, a)}]
+
+
+def remaining(possible, strata, a, b):
+    """How many pairs stay undetermined where the one stratum is earlier than the other."""
+    left = [scenario for scenario in possible if scenario[0][a] < scenario[0][b]]
+    return len(undetermined_pairs(left, strata))
 
 
 class ScenarioTest(unittest.TestCase):
@@ -142,6 +147,8 @@ class ScenarioTest(unittest.TestCase):
     def compare_session(self, units, every, numbers):
         calls, facts, accepted = [], {}, 0
         for turn in range(14):
+            if turn in (2, 5, 9):
+                self.check_questions(units, every, calls, facts)
             fact = some_fact(numbers, units)
             calls.append(fact)
             answer = ask(units, *calls)[-1]
@@ -167,27 +174,102 @@ class ScenarioTest(unittest.TestCase):
         ids = answer[2:]
         self.assertEqual(answer[:2], [-4, len(ids)])
         self.assertEqual(ids, preferred_against(facts, fact, units))
+        self.check_enough(self.left(every, [fact]), facts, ids)
+
+    def check_questions(self, units, every, calls, facts):
+        possible = self.left(every, facts.values())
+        self.check_units_and_finds(units, possible, calls, facts)
+        self.check_strata(units, possible, calls, facts)
+        self.check_best_question(units, possible, calls)
+        self.check_chains(units, every, possible, calls, facts)
+
+    def check_units_and_finds(self, units, possible, calls, facts):
+        due = []
+        for a, b in itertools.product(range(units), repeat=2):
+            due.append((is_earlier(a, b), self.held([moments[a] < moments[b] for moments, years in possible])))
+            due.append((same_year(a, b), self.held([years[a] == years[b] for moments, years in possible])))
+        for unit in range(units):
+            due.append((year_range(unit), self.span(years[unit] for moments, years in possible)))
+        for number, fact in facts.items():
+            if fact[0] == FIND:
+                made = [year for scenario in possible for year in made_years(scenario, fact)]
+                due.append((find_year_range(number), self.span(made)))
+        self.check_answers(units, calls, due)
+
+    def check_strata(self, units, possible, calls, facts):
+        lowest = [
+            min(v for v in range(units) if all(moments[u] == moments[v] for moments, years in possible))
+            for u in range(units)
+        ]
+        strata = sorted(set(lowest))
+        earlier = earlier_pairs(possible, strata)
+        sequences = [
+            sequence for sequence in itertools.permutations(strata)
+            if not any((b, a) in earlier for a, b in itertools.combinations(sequence, 2))
+        ]
+        self.check_realized(possible, sequences)
+        nearest = [
+            (a, b) for a, b in sorted(earlier) if not any((a, c) in earlier and (c, b) in earlier for c in strata)
+        ]
+        due = [(stratum(unit), [0, lowest[unit]]) for unit in range(units)]
+        for unit in range(units):
+            positions = {sequence.index(lowest[unit]) for sequence in sequences}
+            self.assertEqual(positions, set(range(min(positions), max(positions) + 1)))
+            due.append((position_range(unit), [0, min(positions), max(positions)]))
+        due.append((HARRIS_MATRIX, [0, len(nearest), *itertools.chain(*nearest)]))
+        due.append((FIRST_SEQUENCE, [0, len(strata), *min(sequences)]))
+        due.append((COUNT_SEQUENCES, [0, len(sequences)]))
+        rows = [[number, *facts[number], 0][:5] for number in sorted(facts)]
+        due.append((LIST_FACTS, [0, len(rows), *itertools.chain(*rows)]))
+        self.check_answers(units, calls, due)
+
+    def check_realized(self, possible, sequences):
+        """Each sequence is that of the moments of a scenario."""
+        for sequence in sequences:
+            self.assertTrue(any(
+                all(moments[a] < moments[b] for a, b in zip(sequence, sequence[1:])) for moments, years in possible
+            ))
+
+    def check_best_question(self, units, possible, calls):
+        strata = [
+            u for u in range(units)
+            if not any(all(moments[u] == moments[v] for moments, years in possible) for v in range(u))
+        ]
+        questions = [
+            (max(remaining(possible, strata, a, b), remaining(possible, strata, b, a)), a, b)
+            for a, b in undetermined_pairs(possible, strata)
+        ]
+        worst, a, b = min(questions, default=(0, 0, 0))
+        self.check_answers(units, calls, [(BEST_QUESTION, [0, a, b, worst] if questions else [-4])])
+
+    def check_chains(self, units, every, possible, calls, facts):
+        earlier = earlier_pairs(possible, range(units))
+        due = []
+        for a, b in itertools.product(range(units), repeat=2):
+            if (a, b) not in earlier:
+                due.append((explain(a, b), [-4]))
+                continue
+            ids = preferred_strict_chain(facts, a, b, units)
+            due.append((explain(a, b), [0, len(ids), *ids]))
+            against = [(moments, years) for moments, years in every if moments[a] >= moments[b]]
+            self.check_enough(against, facts, ids)
+        self.check_answers(units, calls, due)
+
+    def check_enough(self, against, facts, ids):
+        """The facts leave none of the scenarios that stand against, and no smaller set of facts does so."""
         self.assertEqual(len(set(ids)), len(ids))
-        against = self.left(every, [fact])
         self.assertEqual(self.left(against, [facts[number] for number in ids]), [])
         for fewer in itertools.combinations(facts.values(), len(ids) - 1):
             self.assertTrue(self.left(against, fewer))
 
-    def check_questions(self, units, every, calls, facts):
-        possible = self.left(every, facts.values())
-        pairs = list(itertools.product(range(units), repeat=2))
-        finds = [number for number in facts if facts[number][0] == FIND]
-        asked = ([is_earlier(a, b) for a, b in pairs] + [year_range(unit) for unit in range(units)]
-                 + [find_year_range(number) for number in finds])
-        due = [[0, self.held([m[a] < m[b] for m, years in possible])] for a, b in pairs]
-        due += [self.span(years[unit] for m, years in possible) for unit in range(units)]
-        for number in finds:
-            due.append(self.span(year for scenario in possible for year in made_years(scenario, facts[number])))
-        self.assertEqual(ask(units, *calls, *asked)[len(calls):], due)
+    def check_answers(self, units, calls, due):
+        """Each question is answered as it is due."""
+        questions = [question for question, answer in due]
+        self.assertEqual(list(zip(questions, behind(units, calls, questions))), due)
 
     def held(self, cases):
-        """The three-valued answer."""
-        return 1 if all(cases) else 2 if any(cases) else 0
+        """A three-valued answer."""
+        return [0, 1 if all(cases) else 2 if any(cases) else 0]
 
     def span(self, years):
         """The answer of a range of years, each of which is among the years given."""

@@ -2,7 +2,7 @@
 
 import unittest
 
-from strataproofs.excavation import UnknownOperation, answers
+from strataproofs.excavation import answers
 from tests.helper import UNIT, above, ask, date, find, is_earlier, last, retract, same, year_range
 
 EVERY_CALL = [
@@ -14,8 +14,18 @@ EVERY_CALL = [
     7, 0, 2,
     8, 0,
     9, 3,
+    10, 2,
+    11, 2,
+    12,
+    13,
+    14,
+    15, 0, 2,
+    16, 0, 2,
+    17,
+    18,
     6, 1,
     7, 0, 2,
+    17,
 ]
 EVERY_ANSWER = [
     1, 0, 1, 1, 1, 2,
@@ -26,8 +36,18 @@ EVERY_ANSWER = [
     2, 0, 1,
     3, 0, -30, 90,
     3, 0, -30, 40,
+    2, 0, 1,
+    3, 0, 1, 1,
+    4, 0, 1, 0, 1,
+    4, 0, 2, 0, 1,
+    2, 0, 1,
+    2, 0, 2,
+    4, 0, 2, 1, 2,
+    1, -4,
+    22, 0, 4, 1, 2, 1, 0, 0, 2, 3, 1, 2, 0, 3, 4, 0, -30, 40, 4, 5, 2, -10, 90,
     1, 0,
     2, 0, 2,
+    4, 0, 0, 1, 0,
 ]
 
 
@@ -67,10 +87,14 @@ class FormTest(unittest.TestCase):
         self.assertIs(type(given), list)
         self.assertEqual({type(number) for number in given}, {int})
 
-    def test_numbers_of_no_operation(self):
-        for operation in (-1, 0, 19):
-            with self.subTest(operation):
-                self.assertRaises(UnknownOperation, answers, [1, operation, 0, 0, 0])
+    def test_refused_questions_are_their_code_alone(self):
+        self.assertEqual(
+            answers([17, 10, 0, 11, 12, 15, 0, 0, 16, 0, 12, 1, 16, 0, 0, 17, 1, 16, 0, 1]),
+            [1, -4, 1, -3, 1, -1, 1, -3, 1, -1, 1, 0, 1, -4, 1, -4, 1, 1, 1, -4],
+        )
+
+    def test_empty_lists_have_their_counts(self):
+        self.assertEqual(answers([12, 13, 18, 14]), [2, 0, 0, 2, 0, 0, 2, 0, 0, 2, 0, 1])
 
     def test_a_single_call(self):
         self.assertEqual(answers([1]), [1, 0])

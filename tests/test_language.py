@@ -98,6 +98,9 @@ class NodeTest(unittest.TestCase):
                 self.assertEqual(node.orelse, [], path)
             if isinstance(node, ast.Assign):
                 self.assertEqual(len(node.targets), 1, path)
+            if isinstance(node, ast.ListComp):
+                self.assertEqual(len(node.generators), 1, path)
+                self.assertLessEqual(len(node.generators[0].ifs), 1, path)
 
     def test_functions(self):
         for path, node in nodes():

@@ -1,9 +1,9 @@
-"""is_earlier, year_range and find_year_range, and what a retracted fact leaves of them."""
+"""is_earlier, same_year, year_range and find_year_range, and what a retracted fact leaves of them."""
 
 import unittest
 
 from tests.helper import (
-    above, ask, date, find, find_year_range, is_earlier, last, retract, same, year_range,
+    above, ask, date, find, find_year_range, is_earlier, last, retract, same, same_year, year_range,
 )
 
 
@@ -70,6 +70,76 @@ class IsEarlierTest(unittest.TestCase):
             ask(2, above(1, 0), is_earlier(0, 1), retract(1), is_earlier(0, 1), is_earlier(1, 0)),
             [[1], [0, 1], [0], [0, 2], [0, 2]],
         )
+
+
+class SameYearTest(unittest.TestCase):
+
+    def check(self, units, facts, a, b, answer):
+        """Both orders of the two units are answered alike."""
+        self.assertEqual(ask(units, *facts, same_year(a, b), same_year(b, a))[len(facts):], [[0, answer]] * 2)
+
+    def test_without_facts(self):
+        self.check(2, [], 0, 1, 2)
+
+    def test_a_unit_and_itself(self):
+        self.assertEqual(last(1, same_year(0, 0)), [0, 1])
+        self.assertEqual(last(2, date(0, 5, 9), above(1, 0), same_year(0, 0)), [0, 1])
+
+    def test_units_of_one_stratum(self):
+        facts = (same(0, 1), same(2, 1))
+        self.check(4, facts, 0, 1, 1)
+        self.check(4, facts, 0, 2, 1)
+        self.check(4, facts, 2, 3, 2)
+
+    def test_the_same_single_year(self):
+        self.check(2, (date(0, 7, 7), date(1, 7, 7)), 0, 1, 1)
+        self.check(2, (date(0, 7, 7), date(1, 7, 7), above(1, 0)), 0, 1, 1)
+        self.check(2, (date(0, 2100, 2100), find(1, 2100, 2100)), 0, 1, 1)
+        self.check(2, (date(0, -5000, -5000), date(1, -5000, -5000)), 0, 1, 1)
+
+    def test_a_single_year_by_facts_of_other_units(self):
+        facts = (above(1, 0), above(2, 1), find(0, 7, 9), date(2, 0, 7), same(3, 2))
+        self.check(4, facts, 0, 1, 1)
+        self.check(4, facts, 1, 3, 1)
+
+    def test_ranges_that_do_not_meet(self):
+        self.check(2, (date(0, 0, 19), date(1, 20, 30)), 0, 1, 0)
+        self.check(2, (date(0, 0, 19), find(1, 20, 30)), 0, 1, 0)
+        self.check(2, (date(0, 7, 7), date(1, 8, 8)), 0, 1, 0)
+
+    def test_ranges_that_meet_in_one_year(self):
+        self.check(2, (date(0, 0, 20), date(1, 20, 30)), 0, 1, 2)
+        self.check(2, (date(0, 0, 20), find(1, 20, 30)), 0, 1, 2)
+
+    def test_a_single_year_within_the_other_range(self):
+        self.check(2, (date(0, 7, 7), date(1, 0, 30)), 0, 1, 2)
+        self.check(2, (date(0, 7, 7), date(1, 7, 8)), 0, 1, 2)
+        self.check(2, (date(0, 7, 7), date(1, 6, 7)), 0, 1, 2)
+
+    def test_the_same_range_of_several_years(self):
+        self.check(2, (date(0, 7, 8), date(1, 7, 8)), 0, 1, 2)
+        self.check(2, (date(0, 7, 8), date(1, 7, 8), above(1, 0)), 0, 1, 2)
+
+    def test_a_unit_above_another(self):
+        self.check(2, (above(1, 0),), 0, 1, 2)
+
+    def test_ranges_that_other_units_narrow(self):
+        facts = (date(0, 0, 50), above(1, 0), date(1, 0, 10), date(2, 11, 90), above(3, 2))
+        self.check(4, facts, 0, 3, 0)
+        self.check(4, facts, 1, 3, 0)
+        self.check(4, facts, 0, 1, 2)
+
+    def test_the_years_of_finds_are_no_years_of_units(self):
+        self.check(2, (find(0, 7, 7), find(1, 9, 9)), 0, 1, 2)
+        self.check(2, (find(0, 7, 7), find(1, 7, 7)), 0, 1, 2)
+
+    def test_a_retracted_fact_decides_no_more(self):
+        self.assertEqual(
+            ask(2, date(0, 7, 7), date(1, 7, 7), same_year(0, 1), retract(2), same_year(0, 1), date(1, 8, 9),
+                same_year(0, 1))[2:],
+            [[0, 1], [0], [0, 2], [3], [0, 0]],
+        )
+        self.assertEqual(ask(2, same(0, 1), retract(1), same_year(0, 1))[2:], [[0, 2]])
 
 
 class YearRangeTest(unittest.TestCase):

@@ -3,7 +3,8 @@
 import unittest
 
 from tests.helper import (
-    UNIT, above, ask, date, find, find_year_range, is_earlier, last, retract, same, year_range,
+    BEST_QUESTION, COUNT_SEQUENCES, FIRST_SEQUENCE, HARRIS_MATRIX, LIST_FACTS, UNIT, above, ask, date, explain, find,
+    find_year_range, is_earlier, last, position_range, retract, same, same_year, stratum, year_range,
 )
 
 FAR = 4294967295
@@ -16,7 +17,7 @@ class UnitTest(unittest.TestCase):
         for call in self.calls_with(11):
             with self.subTest(call):
                 self.assertEqual(last(11, call), [-3])
-                self.assertGreaterEqual(last(12, call)[0], 0)
+                self.assert_answered(last(12, call))
 
     def test_beyond_unit_eleven(self):
         for unit in (12, 13, FAR):
@@ -35,10 +36,10 @@ class UnitTest(unittest.TestCase):
             with self.subTest(call):
                 self.assertEqual(last(1, call), [-3])
                 self.assertEqual(last(2, call), [-3])
-                self.assertGreaterEqual(last(3, call)[0], 0)
+                self.assert_answered(last(3, call))
 
     def test_no_units(self):
-        for call in (find(0, 1, 2), date(0, 1, 2), is_earlier(0, 0), year_range(0), above(0, 1), same(1, 0)):
+        for call in self.calls_with(1) + self.calls_with(11):
             with self.subTest(call):
                 self.assertEqual(last(0, call), [-3])
 
@@ -48,8 +49,15 @@ class UnitTest(unittest.TestCase):
     def calls_with(self, unit):
         return (
             above(unit, 0), above(0, unit), same(unit, 0), same(0, unit), find(unit, 1, 2), date(unit, 1, 2),
-            is_earlier(unit, 0), is_earlier(0, unit), is_earlier(unit, unit), year_range(unit),
+            is_earlier(unit, 0), is_earlier(0, unit), is_earlier(unit, unit), year_range(unit), stratum(unit),
+            position_range(unit), same_year(unit, 0), same_year(0, unit), same_year(unit, unit), explain(unit, 0),
+            explain(0, unit), explain(unit, unit),
         )
+
+    def assert_answered(self, answer):
+        """The call is not refused, or it is an explanation of what is not certain."""
+        if answer != [-4]:
+            self.assertGreaterEqual(answer[0], 0)
 
 
 class EqualUnitsTest(unittest.TestCase):
@@ -167,17 +175,46 @@ class FortyFactsTest(unittest.TestCase):
         self.assertEqual(given[-2:], [[40], [-9]])
 
 
+class NoUnitsTest(unittest.TestCase):
+    """The questions about strata where there are none."""
+
+    def test_questions_about_all_strata(self):
+        self.assertEqual(
+            ask(0, HARRIS_MATRIX, FIRST_SEQUENCE, COUNT_SEQUENCES, BEST_QUESTION, LIST_FACTS),
+            [[0, 0], [0, 0], [0, 1], [-4], [0, 0]],
+        )
+
+    def test_questions_about_units(self):
+        self.assertEqual(
+            ask(0, stratum(0), position_range(0), same_year(0, 0), same_year(0, 1), explain(0, 0), explain(0, 1)),
+            [[-3]] * 6,
+        )
+        self.assertEqual(
+            ask(0, stratum(12), position_range(12), same_year(0, 12), same_year(12, 0), explain(0, 12), explain(12, 0)),
+            [[-1]] * 6,
+        )
+
+
 class OrderTest(unittest.TestCase):
     """Of several errors the first one of the table is told."""
 
     def test_range_before_missing(self):
         calls = (
             above(12, 5), above(5, 12), same(12, 5), same(5, 12), find(5, 3, 2), find(5, 1, 2101), find(5, -5001, 2),
-            date(5, 3, 2), date(5, 1, 2101), date(5, -5001, 2), is_earlier(12, 5), is_earlier(5, 12),
+            date(5, 3, 2), date(5, 1, 2101), date(5, -5001, 2), is_earlier(12, 5), is_earlier(5, 12), same_year(12, 5),
+            same_year(5, 12), explain(12, 5), explain(5, 12),
         )
         for call in calls:
             with self.subTest(call):
                 self.assertEqual(last(1, call), [-1])
+
+    def test_range_and_missing_before_what_is_not_earlier(self):
+        facts = (above(1, 0),)
+        self.assertEqual(
+            ask(2, *facts, explain(12, 12), explain(1, 12), explain(FAR, 0), explain(2, 2), explain(1, 2),
+                explain(2, 0), explain(1, 1), explain(1, 0), explain(0, 1))[1:],
+            [[-1], [-1], [-1], [-3], [-3], [-3], [-4], [-4], [0, 1, 1]],
+        )
 
     def test_range_and_missing_before_contradiction(self):
         self.assertEqual(
